@@ -1,0 +1,96 @@
+"""The rules of LANGUAGE.md that a short look at the files can check."""
+
+import ast
+import builtins
+import re
+import unittest
+from pathlib import Path
+
+PACKAGE = Path(__file__).resolve().parent.parent / "touchpin"
+FILES = sorted(PACKAGE.glob("*.py"))
+
+BUILTINS = set(
+    "len range enumerate zip min max sum abs sorted reversed int str bool bytes list tuple dict set frozenset "
+    "isinstance ord repr any all divmod Exception ValueError TypeError KeyError IndexError LookupError "
+    "ZeroDivisionError ArithmeticError OverflowError RuntimeError NotImplementedError AttributeError "
+    "StopIteration NotImplemented super property staticmethod classmethod".split())
+BARRED_WORDS = (
+    "type typing typing_extensions enum Enum IntEnum StrEnum Flag IntFlag Generic Protocol ABC ABCMeta namedtuple "
+    "NamedTuple TypedDict TYPE_CHECKING abstractmethod").split()
+
+
+def trees():
+    return [(path.name, ast.parse(path.read_text(encoding="utf-8"))) for path in FILES]
+
+
+def bound_names(tree):
+    """Names of parameters, of functions and classes, and of what is assigned to."""
+    for node in ast.walk(tree):
+        if isinstance(node, ast.arg):
+            yield node.arg
+        elif isinstance(node, ast.Name) and isinstance(node.ctx, ast.Store):
+            yield node.id
+        elif isinstance(node, ast.FunctionDef | ast.ClassDef):
+            yield node.name
+
+
+class Files(unittest.TestCase):
+    def test_nothing_but_sources(self):
+        self.assertIn("__init__.py", [path.name for path in FILES])
+        for path in PACKAGE.iterdir():
+            if path.name != "__pycache__":
+                self.assertRegex(path.name, r"\A[a-z0-9_]+\.py\Z")
+
+    def test_sizes_and_signs(self):
+        for path in FILES:
+            text = path.read_text(encoding="utf-8")
+            self.assertRegex(text, r"\A[ -~\n]*\Z", path.name)
+            lines = text.split("\n")
+            self.assertLessEqual(len(lines), 400, path.name)
+            self.assertLessEqual(max(map(len, lines)), 120, path.name)
+
+    def test_barred_words(self):
+        barred = re.compile(r"\b(" + "|".join(BARRED_WORDS) + r")\b|dataclass|overload|contextmanager")
+        for path in FILES:
+            self.assertIsNone(barred.search(path.read_text(encoding="utf-8")), path.name)
+
+
+class Code(unittest.TestCase):
+    def test_functions_are_short(self):
+        for name, tree in trees():
+            for node in ast.walk(tree):
+                if isinstance(node, ast.FunctionDef):
+                    self.assertLessEqual(node.end_lineno - node.lineno + 1, 40, (name, node.name))
+
+    def test_imports_are_of_the_package(self):
+        for name, tree in trees():
+            for node in ast.walk(tree):
+                self.assertNotIsInstance(node, ast.Import, name)
+                if isinstance(node, ast.ImportFrom):
+                    self.assertEqual(node.level, 0, name)
+                    self.assertRegex(node.module, r"\Atouchpin\.[a-z0-9_]+\Z", name)
+
+    def test_only_the_listed_builtins(self):
+        known = set(dir(builtins))
+        for name, tree in trees():
+            for node in ast.walk(tree):
+                if isinstance(node, ast.Name) and node.id in known:
+                    self.assertIn(node.id, BUILTINS, name)
+
+    def test_names_are_plain_and_no_builtins(self):
+        for name, tree in trees():
+            for bound in bound_names(tree):
+                self.assertNotIn(bound, dir(builtins), name)
+                self.assertRegex(bound, r"\A([A-Za-z][A-Za-z0-9_]*|__[a-z]+__)\Z", name)
+
+    def test_no_floats_and_no_division(self):
+        for name, tree in trees():
+            for node in ast.walk(tree):
+                self.assertNotIsInstance(node, ast.Div | ast.Global | ast.AsyncFunctionDef, name)
+                if isinstance(node, ast.Constant):
+                    self.assertNotIsInstance(node.value, float | complex, name)
+                    self.assertNotIn("%", str(node.value), name)
+
+
+if __name__ == "__main__":
+    unittest.main()

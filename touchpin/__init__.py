@@ -1,0 +1,1 @@
+"""Touchpin: least pins that touch every piece of a text."""
