@@ -57,3 +57,107 @@ def scrambled(letters, many):
         state = (state * 1103515245 + 12345) % 2 ** 31
         signs.append(letters[(state >> 16) % len(letters)])
     return "".join(signs)
+
+
+def touch_places(text, piece):
+    """The places at which a pin touches the piece, rising."""
+    return [place for place in range(len(text)) if touches(text, (place,), piece)]
+
+
+def least_number(text):
+    """How few pins hold, by all pins gone through, the fewest first."""
+    needed = [set(touch_places(text, piece)) for piece in pieces(text)]
+    for pins in sorted(all_pins(text), key=len):
+        if not any(places.isdisjoint(pins) for places in needed):
+            return len(pins)
+    raise AssertionError("all places together hold each text")
+
+
+def is_tree(text, m, thing, put=()):
+    """Whether a thing is a tree for m pins, as point 7 tells it, with these pins put so far."""
+    if type(thing) is not tuple or len(thing) != 2:
+        return False
+    piece, branches = thing
+    if piece not in pieces(text) or touches(text, put, piece) or type(branches) is not list:
+        return False
+    if len(put) == m:
+        return branches == []
+    if not all(type(branch) is tuple and len(branch) == 2 and type(branch[0]) is int for branch in branches):
+        return False
+    if [place for place, _ in branches] != touch_places(text, piece):
+        return False
+    return all(is_tree(text, m, tree, put + (place,)) for place, tree in branches)
+
+
+def is_form(thing):
+    """Whether a thing is a form of copies, as point 9 tells it."""
+    if type(thing) is not tuple or len(thing) > 300:
+        return False
+    signs = 0
+    for part in thing:
+        if type(part) is not tuple:
+            return False
+        if len(part) == 2 and part[0] == "sign" and part[1] in list("abcdefghijklmnopqrstuvwxyz"):
+            signs += 1
+        elif len(part) == 3 and part[0] == "copy" and type(part[1]) is int and type(part[2]) is int:
+            if part[1] < 0 or part[2] < 1:
+                return False
+            signs += part[2]
+        else:
+            return False
+    return signs <= 300 and all(part[0] == "sign" or part[1] + part[2] <= signs for part in thing)
+
+
+def all_parts(letters, signs, many):
+    """Each part of many signs in a form of so many signs in all."""
+    parts = [("copy", i, many) for i in range(signs - many + 1)]
+    return parts + [("sign", c) for c in letters] if many == 1 else parts
+
+
+def all_forms(letters, signs, left=None):
+    """Each form with so many signs in all, those that go round, too."""
+    if left is None:
+        left = signs
+    if left == 0:
+        return [()]
+    return [(part,) + rest for many in range(1, left + 1) for part in all_parts(letters, signs, many)
+            for rest in all_forms(letters, signs, left - many)]
+
+
+def part_at(form, place):
+    """The part in which a place lies, and the place at which the part begins."""
+    begin = 0
+    for part in form:
+        many = 1 if part[0] == "sign" else part[2]
+        if place < begin + many:
+            return part, begin
+        begin += many
+    raise AssertionError("there is no such place")
+
+
+def sign_behind(form, place):
+    """The letter that a place comes to and how many copies are followed to it, or None where it goes round."""
+    been = []
+    while place not in been:
+        been.append(place)
+        part, begin = part_at(form, place)
+        if part[0] == "sign":
+            return part[1], len(been) - 1
+        place = part[1] + (place - begin)
+    return None
+
+
+def cut(text):
+    """The parts of a text as point 10 cuts them, each length and each earlier place gone through."""
+    parts, begin = [], 0
+    while begin < len(text):
+        fitting = [(many, -i) for i in range(begin) for many in range(1, len(text) - begin + 1)
+                   if text[i:i + many] == text[begin:begin + many]]
+        if fitting:
+            many, i = max(fitting)
+            parts.append(("copy", -i, many))
+            begin += many
+        else:
+            parts.append(("sign", text[begin]))
+            begin += 1
+    return tuple(parts)

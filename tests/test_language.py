@@ -18,6 +18,11 @@ BARRED_WORDS = (
     "type typing typing_extensions enum Enum IntEnum StrEnum Flag IntFlag Generic Protocol ABC ABCMeta namedtuple "
     "NamedTuple TypedDict TYPE_CHECKING abstractmethod").split()
 
+METHODS = (
+    "append clear copy count endswith extend find get index insert isalnum isalpha isdigit islower isspace isupper "
+    "items join keys ljust lower lstrip partition pop remove replace reverse rfind rjust rpartition rsplit rstrip "
+    "setdefault sort split splitlines startswith strip update upper values zfill bit_length add discard").split()
+
 
 def trees():
     return [(path.name, ast.parse(path.read_text(encoding="utf-8"))) for path in FILES]
@@ -32,6 +37,12 @@ def bound_names(tree):
             yield node.id
         elif isinstance(node, ast.FunctionDef | ast.ClassDef):
             yield node.name
+
+
+def own_methods():
+    """The methods that the package's classes define."""
+    classes = [node for _, tree in trees() for node in ast.walk(tree) if isinstance(node, ast.ClassDef)]
+    return [node.name for each in classes for node in each.body if isinstance(node, ast.FunctionDef)]
 
 
 class Files(unittest.TestCase):
@@ -82,6 +93,20 @@ class Code(unittest.TestCase):
             for bound in bound_names(tree):
                 self.assertNotIn(bound, dir(builtins), name)
                 self.assertRegex(bound, r"\A([A-Za-z][A-Za-z0-9_]*|__[a-z]+__)\Z", name)
+
+    def test_is_only_with_none_and_truths(self):
+        for name, tree in trees():
+            for node in ast.walk(tree):
+                if isinstance(node, ast.Compare) and any(isinstance(op, ast.Is | ast.IsNot) for op in node.ops):
+                    told = [isinstance(each, ast.Constant) and repr(each.value) in ("None", "True", "False")
+                            for each in node.comparators]
+                    self.assertTrue(all(told), (name, node.lineno))
+
+    def test_only_the_listed_methods(self):
+        for name, tree in trees():
+            for node in ast.walk(tree):
+                if isinstance(node, ast.Call) and isinstance(node.func, ast.Attribute):
+                    self.assertIn(node.func.attr, METHODS + own_methods(), (name, node.lineno))
 
     def test_no_floats_and_no_division(self):
         for name, tree in trees():
