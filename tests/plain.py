@@ -161,3 +161,100 @@ def cut(text):
             parts.append(("sign", text[begin]))
             begin += 1
     return tuple(parts)
+
+
+def row_text(rows, number):
+    """The text of a row, put together anew from its items."""
+    return "".join(item if isinstance(item, str) else row_text(rows, item) for item in rows[number])
+
+
+def puttings(rows, number=None, place=0):
+    """Each row and place at which it is put in the last row's text, one for each time."""
+    number = len(rows) - 1 if number is None else number
+    found = [(number, place)]
+    for item in rows[number]:
+        if isinstance(item, str):
+            place += 1
+        else:
+            found += puttings(rows, item, place)
+            place += len(row_text(rows, item))
+    return found
+
+
+def first_met(rows):
+    """For each row the least place at which it is put in, or None."""
+    found = puttings(rows)
+    return [min((place for other, place in found if other == number), default=None) for number in range(len(rows))]
+
+
+def pins_of_rows(rows):
+    """The pins of rows as point 12 tells them."""
+    text = row_text(rows, len(rows) - 1)
+    places = {text.index(letter) for letter in text}
+    for row, start in zip(rows, first_met(rows)):
+        if start is not None:
+            for many in range(1, len(row)):
+                ahead = "".join(item if isinstance(item, str) else row_text(rows, item) for item in row[:many])
+                places.add(start + len(ahead) - 1)
+    return tuple(sorted(places))
+
+
+def some_rows(state):
+    """Rows that look like chance, but are the same each time for the same number."""
+    rows = []
+    for number in range(1 + state % 6):
+        row = []
+        state = (state * 1103515245 + 12345) % 2 ** 31
+        for _ in range(1 + (state >> 16) % 4):
+            state = (state * 1103515245 + 12345) % 2 ** 31
+            pick = (state >> 16) % (number + 3)
+            row.append("abc"[pick] if pick < 3 else pick - 3)
+        rows.append(tuple(row))
+    return tuple(rows)
+
+
+def turns(text):
+    """The sorted turns, each with the place in the signs at which it begins."""
+    signs = text + "."
+    return sorted((signs[place:] + signs[:place], place) for place in range(len(signs)))
+
+
+def turned(text):
+    return "".join(turn[-1] for turn, _ in turns(text))
+
+
+def row_runs(last):
+    """The first and the last row of each run."""
+    found = []
+    for at, sign in enumerate(last):
+        if found and last[found[-1][1]] == sign:
+            found[-1] = (found[-1][0], at)
+        else:
+            found.append((at, at))
+    return found
+
+
+def pins_of_turns(text):
+    """The pins of the turns as point 13 tells them."""
+    told = turns(text)
+    signs = len(text) + 1
+    ends = {at for run in row_runs(turned(text)) for at in run}
+    places = {(told[at][1] - 1) % signs for at in ends}
+    return tuple(sorted(places - {len(text)}))
+
+
+def touched_at(text, pins, piece):
+    """The places at which a piece stands with a pin at one of its signs there."""
+    return [i for i in standings(text, piece) if any(i <= pin < i + len(piece) for pin in pins)]
+
+
+def spans_from(text, pins):
+    """The place and the length of each part that point 14 tells, but the pins, place by place gone through."""
+    groups = {}
+    for place in range(len(text)):
+        if place not in pins:
+            # Of two pins equally far off the left one goes ahead: the place amid is parted from it.
+            pin = min(pins, key=lambda pin: (abs(pin - place), pin))
+            far = abs(pin - place)
+            groups.setdefault((pin, pin < place, far.bit_length()), []).append(place)
+    return sorted((min(places), len(places)) for places in groups.values())

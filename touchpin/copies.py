@@ -1,7 +1,7 @@
 """Forms of copies: texts told by signs and by copies from elsewhere in the same text."""
 
 from touchpin.errors import GoesRound
-from touchpin.pieces import MOST_SIGNS, is_letter
+from touchpin.pieces import MOST_SIGNS, is_one_letter
 from touchpin.whole import is_whole
 
 
@@ -21,10 +21,7 @@ def is_part(thing):
 
 def is_sign(part):
     """Whether a tuple is a sign part."""
-    if len(part) != 2 or part[0] != "sign":
-        return False
-    letter = part[1]
-    return isinstance(letter, str) and len(letter) == 1 and is_letter(letter)
+    return len(part) == 2 and part[0] == "sign" and is_one_letter(part[1])
 
 
 def is_copy(part):

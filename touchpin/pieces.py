@@ -8,6 +8,11 @@ def is_letter(sign):
     return "a" <= sign <= "z"
 
 
+def is_one_letter(thing):
+    """Whether anything is a text of one small letter."""
+    return isinstance(thing, str) and len(thing) == 1 and is_letter(thing)
+
+
 def is_text(thing):
     """Whether anything is a text of none to 300 small letters."""
     if not isinstance(thing, str) or len(thing) > MOST_SIGNS:

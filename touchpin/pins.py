@@ -1,6 +1,6 @@
 """Pins of a text: whether they touch each piece, and pins from pins."""
 
-from touchpin.pieces import starts
+from touchpin.pieces import stands_at, starts
 from touchpin.whole import is_whole
 
 
@@ -49,6 +49,15 @@ def first_missed_of(text, free, length):
     touched = {text[place:place + length]: True for place in places if free[place] < length}
     untouched = [text[place:place + length] for place in places if free[place] >= length]
     return min([piece for piece in untouched if piece not in touched], default=None)
+
+
+def first_touched(text, pins, piece):
+    """The least place at which the piece stands with a pin at one of its signs there, or None."""
+    free = free_signs(text, pins)
+    for place in stands_at(text, piece):
+        if free[place] < len(piece):
+            return place
+    return None
 
 
 def joined(text, pins, other, other_pins):
