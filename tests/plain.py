@@ -258,3 +258,26 @@ def spans_from(text, pins):
             far = abs(pin - place)
             groups.setdefault((pin, pin < place, far.bit_length()), []).append(place)
     return sorted((min(places), len(places)) for places in groups.values())
+
+
+def first_strange(text, other):
+    """The first piece of the other text that is none of the text's."""
+    known = set(pieces(text))
+    for piece in pieces(other):
+        if piece not in known:
+            return piece
+    return None
+
+
+def new_endings(text):
+    """How many pieces end at the text's end and stood nowhere ahead of it."""
+    return sum(text[i:] not in text[:-1] for i in range(len(text)))
+
+
+def bounds(text):
+    """The greatest of all numbers that a count tells, and all lengths by which it is so."""
+    found = pieces(text)
+    numbers = {length: -(-sum(len(piece) == length for piece in found) // length)
+               for length in range(1, len(text) + 1)}
+    best = max(numbers.values(), default=0)
+    return best, [length for length in numbers if numbers[length] == best] or [None]

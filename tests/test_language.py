@@ -94,6 +94,43 @@ class Code(unittest.TestCase):
                 self.assertNotIn(bound, dir(builtins), name)
                 self.assertRegex(bound, r"\A([A-Za-z][A-Za-z0-9_]*|__[a-z]+__)\Z", name)
 
+    def test_no_name_of_a_class_or_an_import_is_bound_again(self):
+        for name, tree in trees():
+            taken = [each.asname or each.name for node in tree.body if isinstance(node, ast.ImportFrom)
+                     for each in node.names]
+            taken += [node.name for node in tree.body if isinstance(node, ast.ClassDef)]
+            self.assertEqual(len(taken), len(set(taken)), name)
+            for node in ast.walk(tree):
+                if isinstance(node, ast.arg):
+                    self.assertNotIn(node.arg, taken, name)
+                elif isinstance(node, ast.Name) and isinstance(node.ctx, ast.Store):
+                    self.assertNotIn(node.id, taken, name)
+
+    def test_no_files_import_each_other(self):
+        named = {name[:-3]: {node.module.split(".")[1] for node in tree.body if isinstance(node, ast.ImportFrom)}
+                 for name, tree in trees()}
+        while named:
+            free = [name for name in named if not named[name] & set(named)]
+            self.assertTrue(free, named)
+            for name in free:
+                del named[name]
+
+    def test_imports_name_the_file_that_defines_the_name(self):
+        defined = {"touchpin." + name[:-3]: self.defined_in(tree) for name, tree in trees()}
+        for name, tree in trees():
+            for node in tree.body:
+                if isinstance(node, ast.ImportFrom):
+                    self.assertLessEqual({each.name for each in node.names}, defined[node.module], name)
+
+    def defined_in(self, tree):
+        made = {node.name for node in tree.body if isinstance(node, ast.FunctionDef | ast.ClassDef)}
+        return made | {each.id for node in tree.body if isinstance(node, ast.Assign) for each in node.targets}
+
+    def test_no_name_is_a_method_and_an_attribute(self):
+        stored = {node.attr for _, tree in trees() for node in ast.walk(tree)
+                  if isinstance(node, ast.Attribute) and isinstance(node.ctx, ast.Store)}
+        self.assertEqual(stored & set(own_methods()), set())
+
     def test_is_only_with_none_and_truths(self):
         for name, tree in trees():
             for node in ast.walk(tree):

@@ -40,8 +40,8 @@ class IsRows(unittest.TestCase):
             self.assertIs(is_rows((("a",), ("b", letter, 0))), True)
 
     def test_letters_that_are_none(self):
-        things = ["", "aa", "ab", "A", "Z", "0", "1", " ", "-", ".", "~", "`", "{", "\n", "\t", "a ", "\u00e4", "\u0430"]
-        for thing in things:
+        things = ["", "aa", "ab", "A", "Z", "0", "1", " ", "-", ".", "~", "`", "{", "\n", "\t", "a "]
+        for thing in things + ["\u00e4", "\u0430"]:
             for rows in [((thing,),), (("a", thing),), ((thing, "a"),), (("a",), (thing,)), ((thing,), ("a",))]:
                 self.assertIs(is_rows(rows), False, rows)
 

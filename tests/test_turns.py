@@ -86,7 +86,7 @@ class TurnedBack(unittest.TestCase):
         self.assertEqual(refused, sum(3 ** many for many in range(8)) - len(known))
 
     def one_round(self, last):
-        """Whether going from each sign to its place among the sorted ones comes to all of them before it comes again."""
+        """Whether going from sign to sign by their places among the sorted ones comes to all of them."""
         order = sorted(range(len(last)), key=lambda at: (last[at], at))
         at, many = order[0], 1
         while at != 0:

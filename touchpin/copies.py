@@ -44,18 +44,36 @@ def reach_of(part):
 def text_of(form):
     """The text of a form; refused where a place goes round."""
     origins = origins_of(form)
-    letters = []
     for place in range(len(origins)):
-        copies = followed_from(origins, place)
-        if copies is None:
+        settle(origins, place)
+    return "".join(origins)
+
+
+def settle(origins, place):
+    """Put its letter at a place and at each one on the way to it; refused where the place goes round."""
+    way = []
+    at = place
+    while not isinstance(origins[at], str):
+        # Who has been at as many places as there are comes to one of them again.
+        if len(way) == len(origins):
             raise GoesRound(place)
-        letters.append(letter_behind(origins, place))
-    return "".join(letters)
+        way.append(at)
+        at = origins[at]
+    for each in way:
+        origins[each] = origins[at]
 
 
 def followed(form, place):
     """How many copies are followed from a place to a sign, or None where it goes round."""
-    return followed_from(origins_of(form), place)
+    origins = origins_of(form)
+    many = 0
+    while not isinstance(origins[place], str):
+        # Who has followed as many copies as there are places has been at one of them twice.
+        if many == len(origins):
+            return None
+        place = origins[place]
+        many += 1
+    return many
 
 
 def origins_of(form):
@@ -69,35 +87,21 @@ def origins_of(form):
     return origins
 
 
-def followed_from(origins, place):
-    """How many copies are followed from a place, or None where it goes round."""
-    many = 0
-    while not isinstance(origins[place], str):
-        # Who has followed as many copies as there are places has been at one of them twice.
-        if many == len(origins):
-            return None
-        place = origins[place]
-        many += 1
-    return many
-
-
-def letter_behind(origins, place):
-    """The letter that a place that does not go round comes to."""
-    while not isinstance(origins[place], str):
-        place = origins[place]
-    return origins[place]
-
-
 def pins_of(form):
     """The last places of the parts; refused where a place goes round."""
     # The text itself is not needed, but it is refused just where the pins are.
     text_of(form)
-    pins = []
+    return last_places(form)
+
+
+def last_places(form):
+    """The last places of the parts, wherever these are copied from."""
+    places = []
     signs = 0
     for part in form:
         signs += length_of(part)
-        pins.append(signs - 1)
-    return tuple(pins)
+        places.append(signs - 1)
+    return tuple(places)
 
 
 def cut(text):

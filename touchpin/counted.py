@@ -5,8 +5,13 @@ from touchpin.pieces import counts, pieces_of
 
 def bound(text):
     """The greatest number of pins that a count shows to be needed, and a length by which it is so."""
+    return bound_by(counts(text))
+
+
+def bound_by(numbers):
+    """The bound, and its length, by the numbers of unlike pieces of each length from 1 on."""
     best = (0, None)
-    for length, many in enumerate(counts(text), start=1):
+    for length, many in enumerate(numbers, start=1):
         number = rounded_up(many, length)
         if number > best[0]:
             best = (number, length)

@@ -13,11 +13,14 @@ def is_one_letter(thing):
     return isinstance(thing, str) and len(thing) == 1 and is_letter(thing)
 
 
+def all_letters(signs):
+    """Whether all signs, however many, are small letters."""
+    return all([is_letter(sign) for sign in signs])
+
+
 def is_text(thing):
     """Whether anything is a text of none to 300 small letters."""
-    if not isinstance(thing, str) or len(thing) > MOST_SIGNS:
-        return False
-    return all([is_letter(sign) for sign in thing])
+    return isinstance(thing, str) and len(thing) <= MOST_SIGNS and all_letters(thing)
 
 
 def stands_at(text, piece):

@@ -56,10 +56,11 @@ def first_met(rows):
     met[-1] = 0
     # Only later rows name a row, so that its least place is settled when its turn comes.
     for number in reversed(range(len(rows))):
-        if met[number] is not None:
-            for item, end in zip(rows[number], item_ends(rows[number], met[number], texts)):
-                if not isinstance(item, str):
-                    met[item] = least_of(met[item], end - len(texts[item]))
+        row = rows[number]
+        ends = [] if met[number] is None else item_ends(row, met[number], texts)
+        for item, end in zip(row, ends):
+            if not isinstance(item, str):
+                met[item] = least_of(met[item], end - len(texts[item]))
     return met
 
 
