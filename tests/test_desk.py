@@ -200,8 +200,8 @@ class Refusals(Desks):
         for word in alone:
             for more in ["a", "0", "-", word]:
                 self.check_refused(desk_of("banana", (0, 1)), word + " " + more)
-        for row in ["text", "text ", "pins ", "put ", "seek ", "text a b", "text - -", "text a -", "pins", "put", "put a b", "put a a", "seek", "seek a b",
-                    "pins - -", "pins - 0", "pins 0 -"]:
+        for row in ["text", "text ", "text a b", "text - -", "text a -", "pins", "pins ", "pins - -", "pins - 0",
+                    "pins 0 -", "put", "put ", "put a b", "put a a", "seek", "seek ", "seek a b"]:
             self.check_refused(desk_of("banana", (0, 1)), row)
 
     def test_blanks_tabs_and_line_feeds(self):

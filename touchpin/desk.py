@@ -71,7 +71,8 @@ class Desk:
 
     def say(self, row):
         """The answer to a row; refused where it is none, or where what it asks for is."""
-        word, *rest = row.split(" ")
+        words = row.split(" ")
+        word, rest = words[0], words[1:]
         if word == "text" and len(rest) == 1:
             return self.begin(rest[0])
         if self.growing is None:
